@@ -1,0 +1,86 @@
+"""Runs: programs that are done row by row, with functions of strangers."""
+
+from putoffpiles.errors import BadStep, IsOver, NoName, NothingDone, NoWay
+from putoffpiles.notes import Notes, functions_of
+from putoffpiles.programs import is_number_below, is_way, names, nexts, ops, row_at
+
+
+class Run:
+    """A program that is being done, with all that leads back to where it began."""
+
+    def __init__(self, program, functions):
+        self._functions = functions_of(ops(program), functions)
+        self._program = program
+        self._names = names(program)
+        self._notes = Notes(self._names, self._functions)
+        self._way = [0]
+
+    def step(self, which):
+        """Does the row at which it stands, and goes to the next place with this number."""
+        after = nexts(self._program, self._way[-1])
+        if not after:
+            raise IsOver()
+        if not is_number_below(len(after), which):
+            raise BadStep()
+        self._notes.do(row_at(self._program, self._way[-1]))
+        self._way.append(after[which])
+
+    def place(self):
+        """The place at which it stands."""
+        return self._way[-1]
+
+    def way(self):
+        """The way done so far."""
+        return tuple(self._way)
+
+    def held(self, name):
+        """What a name holds: ("worth", w) or ("note", number)."""
+        if name not in self._names:
+            raise NoName()
+        return self._notes.held(name)
+
+    def note(self, number):
+        """The pair (op, parts) of a note that is not worked out, or ("worth", w)."""
+        return self._notes.note(number)
+
+    def waiting(self):
+        """The lot of the numbers of notes that wait."""
+        return self._notes.waiting()
+
+    def worked(self):
+        """The numbers of notes in the order in which they were worked out."""
+        return self._notes.worked()
+
+    def said(self):
+        """What was printed."""
+        return self._notes.said()
+
+    def back(self):
+        """Takes the last step back."""
+        if len(self._way) == 1:
+            raise NothingDone()
+        self._notes.undo()
+        self._way.pop()
+
+    def copy(self):
+        """A Run that goes on and back apart."""
+        twin = Run(self._program, self._functions)
+        twin._notes = self._notes.copy()
+        twin._way = list(self._way)
+        return twin
+
+
+def told(program, way, functions):
+    """The Run that went this way, from place 0."""
+    if not is_way(program, way) or way[0] != 0:
+        raise NoWay()
+    run = Run(program, functions)
+    for place, after in zip(way, way[1:]):
+        run.step(nexts(program, place).index(after))
+    return run
+
+
+def shape(run):
+    """The triple (place, heads, notes) of a run."""
+    heads, notes = run._notes.shape()
+    return (run.place(), heads, notes)

@@ -1,0 +1,63 @@
+"""The interface: its names stand in their files, with their arguments, under the package's name."""
+
+import importlib
+import inspect
+import unittest
+
+FUNCTIONS = {
+    "programs": {"names": ["program"], "nexts": ["program", "place"], "row_at": ["program", "place"],
+                 "is_way": ["program", "thing"]},
+    "runs": {"told": ["program", "way", "functions"], "shape": ["run"]},
+}
+CLASSES = {
+    "programs": {"Program": ["block"]},
+    "runs": {"Run": ["program", "functions"]},
+}
+METHODS = {
+    ("programs", "Program"): {"__eq__": ["other"]},
+    ("runs", "Run"): {"step": ["which"], "place": [], "way": [], "held": ["name"], "note": ["number"], "waiting": [],
+                      "worked": [], "said": [], "back": [], "copy": []},
+}
+
+
+def module(name):
+    return importlib.import_module("putoffpiles." + name)
+
+
+def arguments(thing):
+    return list(inspect.signature(thing).parameters)
+
+
+class Interface(unittest.TestCase):
+    def test_the_package_imports(self):
+        for name in ("errors", "programs", "runs"):
+            self.assertEqual(module(name).__name__, "putoffpiles." + name)
+
+    def test_functions_are_defined_in_their_files(self):
+        for file, listed in FUNCTIONS.items():
+            for name, expected in listed.items():
+                with self.subTest(file=file, name=name):
+                    function = getattr(module(file), name)
+                    self.assertTrue(inspect.isfunction(function))
+                    self.assertEqual(function.__module__, "putoffpiles." + file)
+                    self.assertEqual(arguments(function), expected)
+
+    def test_classes_are_defined_in_their_files(self):
+        for file, listed in CLASSES.items():
+            for name, expected in listed.items():
+                with self.subTest(file=file, name=name):
+                    made = getattr(module(file), name)
+                    self.assertTrue(inspect.isclass(made))
+                    self.assertEqual(made.__module__, "putoffpiles." + file)
+                    self.assertEqual(arguments(made), expected)
+
+    def test_methods_are_defined_in_their_own_class(self):
+        for (file, name), listed in METHODS.items():
+            own = vars(getattr(module(file), name))
+            for method, expected in listed.items():
+                with self.subTest(name=name, method=method):
+                    self.assertEqual(arguments(own[method])[1:], expected)
+
+
+if __name__ == "__main__":
+    unittest.main()
