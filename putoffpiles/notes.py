@@ -1,10 +1,10 @@
 """Notes: what names hold, what is noted beneath, and how it is worked out and taken back."""
 
 from putoffpiles.errors import NoFunctions, NoNote
-from putoffpiles.programs import is_number_below
+from putoffpiles.programs import ASKING, is_number_below
 
-ASKING = ("ask", "print")
 WRITING = ("note", "copy", "give")
+NOTHING = ("worth", 0)
 
 
 def functions_of(wanted, functions):
@@ -14,68 +14,45 @@ def functions_of(wanted, functions):
     return {op: functions[op] for op in wanted}
 
 
-class Notes:
-    """What each name holds, all notes that were made, and a trail by which rows are taken back.
+class Holding:
+    """What each name holds, and how rows change it; where notes are kept is told by the classes below.
 
-    A thing that is held is ("worth", w) or ("note", number). Notes that are gone stay in the list:
-    taking back the row that let them go brings them back.
+    A thing that is held is ("worth", w), or ("note", k) where k is the index of the note in made.
     """
 
-    def __init__(self, owners, functions):
+    def __init__(self, functions):
         self.functions = functions
-        self.heads = {name: ("worth", 0) for name in owners}
+        self.heads = {}
         self.made = []
         self.worths = {}
         self.order = []
         self.printed = []
-        self.trail = []
 
     def do(self, row):
-        """Does a row; one that only leads elsewhere just leaves its mark on the trail."""
+        """Does a row; one that only leads elsewhere changes nothing."""
         word = row[0]
-        # All functions are called ahead of the first change, so that one that raises has changed nothing.
-        fresh = self._worked_out(row[1]) if word in ASKING else {}
-        self._mark(row)
-        self.worths.update(fresh)
-        self.order.extend(list(fresh))
-        if word == "note":
-            self.heads[row[1]] = self._new_note(row[2], row[3])
+        if word in ASKING:
+            # All functions are called ahead of the first change, so that one that raises has changed nothing.
+            fresh = self._worked_out(row[1])
+            self.worths.update(fresh)
+            self.order.extend(self._numbers(fresh))
+        if word == "print":
+            self.printed.append(self.held(row[1])[1])
+        elif word == "note":
+            parts = tuple([self.held(name) for name in row[3]])
+            self.heads[row[1]] = ("note", self._put_off(row[2], parts))
         elif word == "copy":
             self.heads[row[1]] = self.held(row[2])
         elif word == "give":
             self.heads[row[1]] = ("worth", row[2])
-        elif word == "print":
-            self.printed.append(self.held(row[1])[1])
-
-    def undo(self):
-        """Takes the last row on the trail back."""
-        name, held, made, worked, said = self.trail.pop()
-        if name is not None:
-            self.heads[name] = held
-        for number in self.order[worked:]:
-            del self.worths[number]
-        del self.made[made:]
-        del self.order[worked:]
-        del self.printed[said:]
 
     def held(self, name):
-        """What a name holds."""
-        return self._now(self.heads[name])
-
-    def note(self, number):
-        """A note that waits, or the worth of one that is worked out: NoNote for others."""
-        if not is_number_below(len(self.made), number):
-            raise NoNote()
-        if number in self.worths:
-            return ("worth", self.worths[number])
-        if number not in self._met():
-            raise NoNote()
-        op, parts = self.made[number]
-        return (op, tuple([self._now(part) for part in parts]))
+        """What a name holds; one that was never written holds 0."""
+        return self._now(self.heads.get(name, NOTHING))
 
     def waiting(self):
         """The lot of the numbers of notes that wait."""
-        return tuple(sorted(self._met()))
+        return tuple(sorted(self._numbers(self._met())))
 
     def worked(self):
         """The numbers of the notes that are worked out, in the order in which they were."""
@@ -85,33 +62,14 @@ class Notes:
         """What was printed."""
         return tuple(self.printed)
 
-    def shape(self):
-        """The pair (heads, notes) of the shape."""
-        met = self._met()
-        heads = self._renumbered([self.heads[name] for name in sorted(self.heads)], met)
-        return (heads, tuple([(self.made[n][0], self._renumbered(self.made[n][1], met)) for n in met]))
+    def _put_off(self, op, parts):
+        """Keeps a new note, and tells its index."""
+        self.made.append((op, parts))
+        return len(self.made) - 1
 
-    def copy(self):
-        """The same, going on and back apart; functions are shared, as nobody changes them."""
-        twin = Notes((), self.functions)
-        twin.heads = {name: self.heads[name] for name in self.heads}
-        twin.made = list(self.made)
-        twin.worths = {number: self.worths[number] for number in self.worths}
-        twin.order = list(self.order)
-        twin.printed = list(self.printed)
-        twin.trail = list(self.trail)
-        return twin
-
-    def _mark(self, row):
-        """Leaves on the trail what a row that is done next may change."""
-        name = row[1] if row[0] in WRITING else None
-        held = None if name is None else self.heads[name]
-        self.trail.append((name, held, len(self.made), len(self.order), len(self.printed)))
-
-    def _new_note(self, op, ys):
-        """Makes a note, and tells it as a thing that is held."""
-        self.made.append((op, tuple([self.held(name) for name in ys])))
-        return ("note", len(self.made) - 1)
+    def _numbers(self, kept):
+        """The list of the numbers of the notes at these indexes: by each class below in its own way."""
+        return list(kept)
 
     def _now(self, thing):
         """A thing as it is held now: the worth of a note that was worked out since."""
@@ -121,7 +79,7 @@ class Notes:
         return thing
 
     def _open(self, things, fresh):
-        """The numbers of the notes among these things that are worked out neither for good nor afresh."""
+        """The indexes of the notes among these things that are worked out neither for good nor afresh."""
         return [what for kind, what in things if kind == "note" and what not in self.worths and what not in fresh]
 
     def _worth(self, thing, fresh):
@@ -135,7 +93,7 @@ class Notes:
         """The worths of all notes that asking a name works out, in the order in which it does; none is kept."""
         fresh = {}
         # A stack of the notes whose parts are under way, not calls within calls: chains have any length.
-        ahead = self._open([self.heads[name]], fresh)
+        ahead = self._open([self.held(name)], fresh)
         while ahead:
             op, parts = self.made[ahead[-1]]
             beneath = self._open(parts, fresh)
@@ -148,7 +106,7 @@ class Notes:
         return fresh
 
     def _met(self):
-        """The notes that wait, as they are met from the names on, each with its number in the shape."""
+        """The indexes of the notes that wait, as they are met from the names on, each with its number in the shape."""
         met = {}
         ahead = [self.heads[name] for name in sorted(self.heads)][::-1]
         while ahead:
@@ -158,6 +116,65 @@ class Notes:
                 met[what] = len(met)
                 ahead.extend(self.made[what][1][::-1])
         return met
+
+
+class Notes(Holding):
+    """All notes that were made, and a trail by which rows are taken back.
+
+    The index of a note is its number. Notes that are gone stay: taking back the row that let them go brings them back.
+    """
+
+    def __init__(self, functions):
+        super().__init__(functions)
+        self.trail = []
+
+    def do(self, row):
+        """Does a row, and leaves on the trail what leads back."""
+        name = row[1] if row[0] in WRITING else None
+        mark = (name, self.heads.get(name), len(self.made), len(self.order), len(self.printed))
+        super().do(row)
+        self.trail.append(mark)
+
+    def undo(self):
+        """Takes the last row on the trail back."""
+        name, head, made, worked, said = self.trail.pop()
+        if head is not None:
+            self.heads[name] = head
+        elif name is not None:
+            del self.heads[name]
+        for number in self.order[worked:]:
+            del self.worths[number]
+        del self.made[made:]
+        del self.order[worked:]
+        del self.printed[said:]
+
+    def note(self, number):
+        """A note that waits, or the worth of one that is worked out: NoNote for others."""
+        if not is_number_below(len(self.made), number):
+            raise NoNote()
+        if number in self.worths:
+            return ("worth", self.worths[number])
+        if number not in self._met():
+            raise NoNote()
+        op, parts = self.made[number]
+        return (op, tuple([self._now(part) for part in parts]))
+
+    def shape(self, owners):
+        """The pair (heads, notes) of the shape of what these names hold."""
+        met = self._met()
+        heads = self._renumbered([self.held(name) for name in owners], met)
+        return (heads, tuple([(self.made[n][0], self._renumbered(self.made[n][1], met)) for n in met]))
+
+    def copy(self):
+        """The same, going on and back apart; functions are shared, as nobody changes them."""
+        twin = Notes(self.functions)
+        twin.heads = {name: self.heads[name] for name in self.heads}
+        twin.made = list(self.made)
+        twin.worths = {number: self.worths[number] for number in self.worths}
+        twin.order = list(self.order)
+        twin.printed = list(self.printed)
+        twin.trail = list(self.trail)
+        return twin
 
     def _renumbered(self, things, met):
         """For each thing the number in the shape of the note that it is, or -1 for a worth."""

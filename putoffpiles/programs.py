@@ -8,6 +8,7 @@ MOST_DEEP = 4
 MOST_NAMES = 8
 MOST_PARTS = 3
 MOST_LETTERS = 8
+ASKING = ("ask", "print")
 
 
 def is_integer(thing):
@@ -25,6 +26,14 @@ def is_name(thing):
     if not isinstance(thing, str) or not 1 <= len(thing) <= MOST_LETTERS:
         return False
     return all(["a" <= sign <= "z" for sign in thing])
+
+
+def is_lot(members, thing):
+    """Whether a thing is a lot of some of the members, which are a lot of integers or of strings themselves."""
+    # A flag equals an integer, but is none.
+    if not isinstance(thing, tuple) or any([isinstance(item, bool) for item in thing]):
+        return False
+    return thing == tuple([member for member in members if member in thing])
 
 
 def is_parts(thing):
@@ -49,7 +58,7 @@ def is_row(deep, thing):
         return len(rest) == 2 and is_name(rest[0]) and is_name(rest[1])
     if word == "give":
         return len(rest) == 2 and is_name(rest[0]) and is_integer(rest[1])
-    if word == "ask" or word == "print":
+    if word in ASKING:
         return len(rest) == 1 and is_name(rest[0])
     if word == "either":
         return len(rest) == 2 and is_block(deep + 1, rest[0]) and is_block(deep + 1, rest[1])
@@ -144,20 +153,41 @@ class Program:
             raise BadProgram(place)
         self.block = block
         self._rows = tuple(rows_of(block))
+        self._names = all_names(self._rows)
         self._leads = tuple(block_leads(block, 0, len(self._rows)) + [()])
 
     def __eq__(self, other):
         return isinstance(other, Program) and self.block == other.block
 
 
+def wide_program(block):
+    """The program of a block that may have more rows, and deeper ones, than a caller's may."""
+    program = Program(())
+    program.block = block
+    program._rows = tuple(rows_of(block))
+    program._names = all_names(program._rows)
+    program._leads = tuple(block_leads(block, 0, len(program._rows)) + [()])
+    return program
+
+
 def names(program):
     """The lot of all names that hold something in the program."""
-    return all_names(program._rows)
+    return program._names
 
 
 def ops(program):
     """The lot of what its note rows put off."""
     return tuple(sorted({row[2] for row in program._rows if row[0] == "note"}))
+
+
+def note_places(program):
+    """The lot of the places of its note rows."""
+    return tuple([place for place, row in enumerate(program._rows) if row[0] == "note"])
+
+
+def end_of(program):
+    """The place behind all rows."""
+    return len(program._rows)
 
 
 def row_at(program, place):

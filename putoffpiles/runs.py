@@ -5,25 +5,30 @@ from putoffpiles.notes import Notes, functions_of
 from putoffpiles.programs import is_number_below, is_way, names, nexts, ops, row_at
 
 
+def place_behind(program, place, which):
+    """The next place with this number: IsOver at the end, BadStep for what is no number of one."""
+    after = nexts(program, place)
+    if not after:
+        raise IsOver()
+    if not is_number_below(len(after), which):
+        raise BadStep()
+    return after[which]
+
+
 class Run:
     """A program that is being done, with all that leads back to where it began."""
 
     def __init__(self, program, functions):
         self._functions = functions_of(ops(program), functions)
         self._program = program
-        self._names = names(program)
-        self._notes = Notes(self._names, self._functions)
+        self._notes = Notes(self._functions)
         self._way = [0]
 
     def step(self, which):
         """Does the row at which it stands, and goes to the next place with this number."""
-        after = nexts(self._program, self._way[-1])
-        if not after:
-            raise IsOver()
-        if not is_number_below(len(after), which):
-            raise BadStep()
+        behind = place_behind(self._program, self._way[-1], which)
         self._notes.do(row_at(self._program, self._way[-1]))
-        self._way.append(after[which])
+        self._way.append(behind)
 
     def place(self):
         """The place at which it stands."""
@@ -35,7 +40,7 @@ class Run:
 
     def held(self, name):
         """What a name holds: ("worth", w) or ("note", number)."""
-        if name not in self._names:
+        if name not in names(self._program):
             raise NoName()
         return self._notes.held(name)
 
@@ -82,5 +87,5 @@ def told(program, way, functions):
 
 def shape(run):
     """The triple (place, heads, notes) of a run."""
-    heads, notes = run._notes.shape()
+    heads, notes = run._notes.shape(names(run._program))
     return (run.place(), heads, notes)

@@ -203,3 +203,42 @@ def some_blocks(many, seed):
         if len(stands_of(block)) <= 30:
             found.append(block)
     return found
+
+
+def loopy_plain_row(chance, letters):
+    name = chance.choice(letters)
+    word = chance.choice(["note"] * 5 + ["copy"] * 3 + ["give", "ask", "print"])
+    if word == "note":
+        many = chance.choice((0, 1, 1, 1, 2, 2))
+        return ("note", name, chance.choice("fg"), tuple(chance.choice(letters) for _ in range(many)))
+    if word == "copy":
+        return ("copy", name, chance.choice(letters))
+    return ("give", name, chance.randint(0, 3)) if word == "give" else (word, name)
+
+
+def loopy_block(chance, letters, deep, most):
+    """A block with many choices, so that about as many have a ring as have none."""
+    rows = []
+    for _ in range(chance.randint(1, most)):
+        kind = chance.random() if deep < 4 else 1
+        if kind < 0.3:
+            second = loopy_block(chance, letters, deep + 1, 2) if chance.random() < 0.5 else ()
+            rows.append(("either", loopy_block(chance, letters, deep + 1, 2), second))
+        elif kind < 0.4:
+            rows.append(("again", loopy_block(chance, letters, deep + 1, 3)))
+        else:
+            rows.append(loopy_plain_row(chance, letters))
+    return tuple(rows)
+
+
+def loopy_blocks(many, seed):
+    """So many blocks with a loop of choices in their midst, the same at each call."""
+    chance = random.Random(seed)
+    found = []
+    while len(found) < many:
+        letters = "abcd"[: chance.randint(1, 4)]
+        block = loopy_block(chance, letters, 3, 2)
+        block += (("again", loopy_block(chance, letters, 2, 6)),) + loopy_block(chance, letters, 3, 2)
+        if len(stands_of(block)) <= 30:
+            found.append(block)
+    return found

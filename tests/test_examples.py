@@ -2,10 +2,14 @@
 
 import unittest
 
+from putoffpiles.holders import holders
+from putoffpiles.marks import bounds, is_quiet, surely, vain_way
+from putoffpiles.piles import fullest, greatest, ring, round_way, shapes
 from putoffpiles.programs import Program, names, nexts
 from putoffpiles.runs import shape, told
 
 total = Program((("give", "t", 0), ("again", (("note", "t", "add", ("t",)),)), ("print", "t")))
+last = Program((("give", "a", 1), ("again", (("note", "c", "f", ("a",)),)), ("print", "c")))
 
 
 class Examples(unittest.TestCase):
@@ -22,6 +26,29 @@ class Examples(unittest.TestCase):
         r.step(0)
         self.assertEqual(r.said(), (2,))
         self.assertEqual(r.worked(), (0, 1))
+
+    def test_e03(self):
+        self.assertEqual(holders(total, (1, 2, 1), ("t",)), ("t",))
+        self.assertIsNone(holders(total, (3, 4), ("t",)))
+
+    def test_e04(self):
+        self.assertEqual(ring(total), (2, (1, 2, 1), ("t",)))
+        self.assertEqual(round_way(total, (2, (1, 2, 1), ("t",)), 1), (0, 1, 2, 1, 2, 1))
+
+    def test_e05(self):
+        self.assertIsNone(ring(last))
+        self.assertEqual(greatest(last), 1)
+        self.assertEqual(fullest(last), (0, 1, 2, 1))
+        self.assertEqual(shapes(last), [
+            (0, (-1, -1), ()), (1, (-1, -1), ()), (1, (-1, 0), (("f", (-1,)),)), (2, (-1, -1), ()),
+            (2, (-1, 0), (("f", (-1,)),)), (3, (-1, -1), ()), (3, (-1, 0), (("f", (-1,)),)), (4, (-1, -1), ())])
+
+    def test_e06(self):
+        self.assertEqual(surely(last), ())
+        self.assertEqual(vain_way(last, 2), (0, 1, 2, 1, 2, 1, 3, 4))
+        self.assertEqual(surely(total), (2,))
+        self.assertEqual(bounds(total), ((2,),))
+        self.assertIs(is_quiet(total), True)
 
 
 if __name__ == "__main__":

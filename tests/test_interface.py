@@ -8,15 +8,24 @@ FUNCTIONS = {
     "programs": {"names": ["program"], "nexts": ["program", "place"], "row_at": ["program", "place"],
                  "is_way": ["program", "thing"]},
     "runs": {"told": ["program", "way", "functions"], "shape": ["run"]},
+    "holders": {"holders": ["program", "way", "lot"]},
+    "piles": {"ring": ["program"], "is_ring": ["program", "thing"], "is_closed": ["program", "thing"],
+              "round_way": ["program", "ring", "times"], "fullest": ["program"], "greatest": ["program"],
+              "shapes": ["program"]},
+    "marks": {"vain_way": ["program", "place"], "surely": ["program"], "bounds": ["program"],
+              "marked": ["program", "places"], "is_quiet": ["program"]},
 }
 CLASSES = {
     "programs": {"Program": ["block"]},
     "runs": {"Run": ["program", "functions"]},
+    "machine": {"Machine": ["program", "functions", "size"]},
 }
 METHODS = {
     ("programs", "Program"): {"__eq__": ["other"]},
     ("runs", "Run"): {"step": ["which"], "place": [], "way": [], "held": ["name"], "note": ["number"], "waiting": [],
                       "worked": [], "said": [], "back": [], "copy": []},
+    ("machine", "Machine"): {"step": ["which"], "place": [], "way": [], "held": ["name"], "waiting": [], "worked": [],
+                             "said": [], "cells": [], "collect": [], "collected": []},
 }
 
 
@@ -30,7 +39,7 @@ def arguments(thing):
 
 class Interface(unittest.TestCase):
     def test_the_package_imports(self):
-        for name in ("errors", "programs", "runs"):
+        for name in ("errors", *FUNCTIONS, *CLASSES):
             self.assertEqual(module(name).__name__, "putoffpiles." + name)
 
     def test_functions_are_defined_in_their_files(self):

@@ -23,6 +23,7 @@ BARRED_WORDS = set(
 BARRED_ATTRIBUTES = set(
     "items keys values pop update append clear extend insert remove reverse setdefault sort args encode decode hex"
     " fromhex format format_map mro".split())
+LIBRARY = {"itertools": {"combinations"}}
 BARRED_NODES = (ast.AsyncFunctionDef, ast.AsyncFor, ast.AsyncWith, ast.Await, ast.Div)
 SETS = (ast.Set, ast.SetComp)
 
@@ -40,6 +41,11 @@ def walk(kind):
         for node in ast.walk(tree):
             if isinstance(node, kind):
                 yield f"{name}:{getattr(node, 'lineno', 0)}", node
+
+
+def names_at_the_top(tree):
+    found = {node.name for node in tree.body if isinstance(node, (ast.FunctionDef, ast.ClassDef))}
+    return found | {node.targets[0].id for node in tree.body if isinstance(node, ast.Assign)}
 
 
 def called(node):
@@ -62,17 +68,20 @@ class Language(unittest.TestCase):
             self.assertIsNotNone(ast.get_docstring(node) or node.name.startswith("__") or None, at)
 
     def test_imports_name_the_file_that_defines_the_name(self):
-        defined = {name: {node.name for node in tree.body if isinstance(node, (ast.FunctionDef, ast.ClassDef))}
-                   for name, tree in trees().items()}
+        defined = {name: names_at_the_top(tree) for name, tree in trees().items()}
         for at, node in walk((ast.Import, ast.ImportFrom)):
             self.assertIsInstance(node, ast.ImportFrom, at)
+            if node.module in LIBRARY:
+                self.assertLessEqual({alias.name for alias in node.names}, LIBRARY[node.module], at)
+                continue
             self.assertEqual((node.level, node.module.split(".")[0]), (0, "putoffpiles"), at)
             for alias in node.names:
                 self.assertIsNone(alias.asname, at)
                 self.assertIn(alias.name, defined[node.module.split(".")[1]], at)
 
     def test_no_two_files_import_from_each_other(self):
-        leads = {name: {node.module.split(".")[1] for node in ast.walk(tree) if isinstance(node, ast.ImportFrom)}
+        leads = {name: {node.module.split(".")[1] for node in ast.walk(tree)
+                        if isinstance(node, ast.ImportFrom) and node.module not in LIBRARY}
                  for name, tree in trees().items()}
         while leads:
             free = [name for name in leads if not leads[name] & set(leads)]
