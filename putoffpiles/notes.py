@@ -3,7 +3,7 @@
 from putoffpiles.errors import NoFunctions, NoNote
 from putoffpiles.programs import ASKING, is_number_below
 
-WRITING = ("note", "copy", "give")
+WRITING = ("note", "copy", "give", "drop")
 NOTHING = ("worth", 0)
 
 
@@ -29,7 +29,7 @@ class Holding:
         self.printed = []
 
     def do(self, row):
-        """Does a row; one that only leads elsewhere changes nothing."""
+        """Does a row, or the ("drop", x) of a session; a row that only leads elsewhere changes nothing."""
         word = row[0]
         if word in ASKING:
             # All functions are called ahead of the first change, so that one that raises has changed nothing.
@@ -45,6 +45,8 @@ class Holding:
             self.heads[row[1]] = self.held(row[2])
         elif word == "give":
             self.heads[row[1]] = ("worth", row[2])
+        elif word == "drop":
+            del self.heads[row[1]]
 
     def held(self, name):
         """What a name holds; one that was never written holds 0."""
@@ -147,6 +149,10 @@ class Notes(Holding):
         del self.made[made:]
         del self.order[worked:]
         del self.printed[said:]
+
+    def written(self):
+        """The lot of the names that were written and not dropped since."""
+        return tuple(sorted(self.heads))
 
     def note(self, number):
         """A note that waits, or the worth of one that is worked out: NoNote for others."""

@@ -7,6 +7,8 @@ from putoffpiles.marks import bounds, is_quiet, surely, vain_way
 from putoffpiles.piles import fullest, greatest, ring, round_way, shapes
 from putoffpiles.programs import Program, names, nexts
 from putoffpiles.runs import shape, told
+from putoffpiles.sessions import Session
+from putoffpiles.texts import program_text
 
 total = Program((("give", "t", 0), ("again", (("note", "t", "add", ("t",)),)), ("print", "t")))
 last = Program((("give", "a", 1), ("again", (("note", "c", "f", ("a",)),)), ("print", "c")))
@@ -49,6 +51,16 @@ class Examples(unittest.TestCase):
         self.assertEqual(surely(total), (2,))
         self.assertEqual(bounds(total), ((2,),))
         self.assertIs(is_quiet(total), True)
+
+    def test_e07(self):
+        self.assertEqual(program_text(total), "t = 0\nagain\n  t = add(t)\nprint t\n")
+
+    def test_e08(self):
+        s = Session({"add": lambda row: sum(row)})
+        s.do(("give", "a", 2))
+        s.do(("note", "b", "add", ("a", "a")))
+        self.assertEqual(s.waiting(), (0,))
+        self.assertEqual(s.journal(), "a = 2 #722\nb = add(a, a) #5940\n")
 
 
 if __name__ == "__main__":

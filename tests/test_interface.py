@@ -14,11 +14,14 @@ FUNCTIONS = {
               "shapes": ["program"]},
     "marks": {"vain_way": ["program", "place"], "surely": ["program"], "bounds": ["program"],
               "marked": ["program", "places"], "is_quiet": ["program"]},
+    "texts": {"row_text": ["row"], "program_text": ["program"]},
+    "reading": {"read_program": ["text"]},
 }
 CLASSES = {
     "programs": {"Program": ["block"]},
     "runs": {"Run": ["program", "functions"]},
     "machine": {"Machine": ["program", "functions", "size"]},
+    "sessions": {"Session": ["functions"]},
 }
 METHODS = {
     ("programs", "Program"): {"__eq__": ["other"]},
@@ -26,6 +29,9 @@ METHODS = {
                       "worked": [], "said": [], "back": [], "copy": []},
     ("machine", "Machine"): {"step": ["which"], "place": [], "way": [], "held": ["name"], "waiting": [], "worked": [],
                              "said": [], "cells": [], "collect": [], "collected": []},
+    ("sessions", "Session"): {"do": ["row"], "held": ["name"], "note": ["number"], "waiting": [], "worked": [],
+                              "said": [], "names": [], "drop": ["name"], "undo": [], "redo": [], "copy": [],
+                              "journal": []},
 }
 
 

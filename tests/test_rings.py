@@ -115,6 +115,17 @@ class IsRing(unittest.TestCase):
         self.assertIs(is_ring(program, (1, (2, 0, 1, 2), ("t", "u"))), True)
         self.assertIs(is_ring(program, (1, (2, 0, 1, 2), ("t",))), False)
 
+    def test_a_way_that_begins_elsewhere(self):
+        self.assertIs(is_ring(LOOP, (2, (2, 1, 2, 1), ("t",))), False)
+        self.assertIs(is_ring(LOOP, (2, (2, 1), ("t",))), False)
+
+    def test_lots_that_holders_tells_but_that_are_none(self):
+        gone = looped(("note", "t", "add", ("t",)), ("give", "t", 0))
+        asked = looped(("note", "t", "add", ("t",)), ("ask", "t"))
+        for lot in ((), None, ("t",)):
+            self.assertIs(is_ring(gone, (1, (2, 0, 1, 2), lot)), False)
+            self.assertIs(is_ring(asked, (1, (2, 0, 1, 2), lot)), False)
+
     def test_both_lots_must_come_back(self):
         # Behind one round the new note is held by y alone, though both hold the elder one.
         program = looped(("copy", "y", "x"), ("note", "x", "f", ()))
