@@ -48,7 +48,7 @@ class Opened:
 
     def __init__(self, begin):
         self.begin = begin
-        self.rows = []
+        self.taken = []
 
     def lacks_or(self):
         """Whether it is the first block of an either, so that another one must follow."""
@@ -77,7 +77,7 @@ class Reader:
 
     def rows(self):
         """The rows of the outermost block."""
-        return tuple(self.opened[0].rows)
+        return tuple(self.opened[0].taken)
 
     def _close(self, many):
         """Closes all open blocks but so many, and tells whether all could be closed."""
@@ -85,13 +85,13 @@ class Reader:
             inner = self.opened.pop()
             if inner.lacks_or():
                 return False
-            self.opened[-1].rows.append((*inner.begin, tuple(inner.rows)))
+            self.opened[-1].taken.append((*inner.begin, tuple(inner.taken)))
         return True
 
     def _turn(self):
         """Goes on from an either's first block to its second one, and tells whether there was a first one."""
         first = self.opened.pop()
-        self.opened.append(Opened(("either", tuple(first.rows))))
+        self.opened.append(Opened(("either", tuple(first.taken))))
         return first.lacks_or()
 
     def _begin(self, text):
@@ -101,7 +101,7 @@ class Reader:
             return True
         row = read_row(text)
         if row is not None:
-            self.opened[-1].rows.append(row)
+            self.opened[-1].taken.append(row)
         return row is not None
 
 

@@ -57,8 +57,8 @@ class RingSearch:
 
     def _closing(self):
         """The list of the spots of an elder note at note rows behind which it may come back to where it was."""
-        places = note_places(self.program)
-        return [spot for spot in self.leads if spot[0] in places and self._spots_within(spot)]
+        back = [spot for spot in self.leads if self._spots_within(spot)]
+        return [spot for spot in back if row_at(self.program, spot[0])[0] == "note"]
 
     def _twin_behind(self, spot):
         """The twin behind a note row: its new note, and an elder one that came by this spot."""

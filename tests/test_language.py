@@ -170,6 +170,16 @@ class Language(unittest.TestCase):
             if isinstance(node.ops[0], (ast.Is, ast.IsNot)):
                 self.assertIsInstance(node.comparators[0], ast.Constant, at)
 
+    def test_a_name_is_a_method_or_an_attribute(self):
+        methods = {each.name for _, node in walk(ast.ClassDef) for each in node.body if isinstance(each, ast.FunctionDef)}
+        stored = {node.attr for _, node in walk(ast.Attribute) if isinstance(node.ctx, ast.Store)}
+        # The interface itself has runs' place() and the place of BadProgram.
+        self.assertEqual(methods & stored, {"place"})
+
+    def test_one_lambda_in_a_line(self):
+        found = [(at, tuple(arg.arg for arg in node.args.args)) for at, node in walk(ast.Lambda)]
+        self.assertEqual(len(found), len(set(found)))
+
     def test_handlers_and_raises_name_their_errors(self):
         for at, node in walk(ast.ExceptHandler):
             self.assertIsNotNone(node.type, at)
