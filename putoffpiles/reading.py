@@ -22,8 +22,8 @@ def read_row(text):
         asked = text.removeprefix(word + " ")
         if asked != text and is_name(asked):
             return (word, asked)
-    name, sign, rest = text.partition(" = ")
-    if sign == "" or not is_name(name):
+    name, _, rest = text.partition(" = ")
+    if not is_name(name):
         return None
     if is_name(rest):
         return ("copy", name, rest)
@@ -34,8 +34,8 @@ def read_row(text):
 
 def read_note(name, text):
     """The note row of a name, whose text behind the sign this is, or None."""
-    op, sign, rest = text.partition("(")
-    if sign == "" or not is_name(op) or not rest.endswith(")"):
+    op, _, rest = text.partition("(")
+    if not is_name(op) or not rest.endswith(")"):
         return None
     parts = () if rest == ")" else tuple(rest[:-1].split(", "))
     if len(parts) > MOST_PARTS or not all([is_name(part) for part in parts]):
@@ -100,8 +100,7 @@ class Reader:
             self.opened.append(Opened((text,)))
             return True
         row = read_row(text)
-        if row is not None:
-            self.opened[-1].taken.append(row)
+        self.opened[-1].taken.append(row)
         return row is not None
 
 
