@@ -7,7 +7,8 @@ from putoffpiles.holders import lot_behind
 from putoffpiles.piles import MOST_RING_NAMES, ring
 from putoffpiles.programs import blocks_of, end_of, is_lot, is_number_below, names, nexts, note_places, row_at, rows_of
 from putoffpiles.programs import wide_program
-from putoffpiles.searches import least_path, places_of
+from putoffpiles.rings import first_spot
+from putoffpiles.searches import least_path, places_of, turned
 
 MOST_NOTE_ROWS = 10
 
@@ -42,7 +43,28 @@ def watched(program, place, state):
 
 def surely(program):
     """The lot of the places of note rows whose notes are worked out on every way to the end."""
-    return tuple([place for place in note_places(program) if vain_way(program, place) is None])
+    vain = vain_spots(program)
+    return tuple([place for place in note_places(program) if first_spot(program, place) not in vain])
+
+
+def vain_spots(program):
+    """A dict of the spots, empty lots among them, from which some way leads to the end without working the note out."""
+    leads = {}
+    ahead = [first_spot(program, place) for place in note_places(program)]
+    while ahead:
+        spot = ahead.pop()
+        if spot not in leads:
+            leads[spot] = [(to, lot) for lot in watched(program, None, spot) for to in nexts(program, spot[0])]
+            ahead.extend(leads[spot])
+    backs = turned(leads)
+    found = {}
+    ahead = [spot for spot in leads if spot[0] == end_of(program)]
+    while ahead:
+        spot = ahead.pop()
+        if spot not in found:
+            found[spot] = True
+            ahead.extend(backs[spot])
+    return found
 
 
 def marked(program, places):

@@ -46,8 +46,11 @@ def is_block(deep, thing):
     return isinstance(thing, tuple) and len(thing) <= MOST_ROWS_IN_BLOCK and deep <= MOST_DEEP
 
 
-def is_row(deep, thing):
-    """Whether a thing has the form of a row in a block that is so deep; rows within it are not judged."""
+def is_row(deep, thing, many=0):
+    """Whether a thing has the form of a row in a block that is so deep; rows within it are not judged.
+
+    Many is how many blocks may be called: none by a program, those of a book by its blocks.
+    """
     # A first item that is no string is not compared: an object of any kind may stand there.
     if not isinstance(thing, tuple) or not thing or not isinstance(thing[0], str):
         return False
@@ -60,6 +63,8 @@ def is_row(deep, thing):
         return len(rest) == 2 and is_name(rest[0]) and is_integer(rest[1])
     if word in ASKING:
         return len(rest) == 1 and is_name(rest[0])
+    if word == "call":
+        return len(rest) == 1 and is_number_below(many, rest[0])
     if word == "either":
         return len(rest) == 2 and is_block(deep + 1, rest[0]) and is_block(deep + 1, rest[1])
     return word == "again" and len(rest) == 1 and is_block(deep + 1, rest[0])
@@ -76,16 +81,16 @@ def names_of(row):
         return [row[1], *row[3]]
     if row[0] == "copy":
         return [row[1], row[2]]
-    return [] if blocks_of(row) else [row[1]]
+    return [row[1]] if row[0] == "give" or row[0] in ASKING else []
 
 
-def formless_place(block):
-    """The place of the first row that is of no form, or None."""
+def formless_place(block, many):
+    """The place of the first row that is of no form where so many blocks may be called, or None."""
     ahead = [(1, row) for row in block[::-1]]
     place = 0
     while ahead:
         deep, row = ahead.pop()
-        if not is_row(deep, row):
+        if not is_row(deep, row, many):
             return place
         for inner in blocks_of(row)[::-1]:
             ahead.extend([(deep + 1, each) for each in inner[::-1]])
@@ -108,11 +113,11 @@ def all_names(rows):
     return tuple(sorted({name for row in rows for name in names_of(row)}))
 
 
-def bad_place(block):
-    """The place that BadProgram tells of a block, or None if it is a program's."""
+def bad_place(block, many):
+    """The place that BadProgram tells of a block that may call so many blocks, or None if nothing is wrong with it."""
     if not isinstance(block, tuple):
         return -1
-    place = formless_place(block)
+    place = formless_place(block, many)
     if place is not None:
         return place
     rows = rows_of(block)
@@ -148,7 +153,7 @@ class Program:
     """A block of rows; equal to another one just if the block is."""
 
     def __init__(self, block):
-        place = bad_place(block)
+        place = bad_place(block, 0)
         if place is not None:
             raise BadProgram(place)
         self.block = block
@@ -161,7 +166,7 @@ class Program:
 
 
 def wide_program(block):
-    """The program of a block that may have more rows, and deeper ones, than a caller's may."""
+    """The program of a block that may have more rows, and deeper ones, than a caller's may, and calls, too."""
     program = Program(())
     program.block = block
     program._rows = tuple(rows_of(block))

@@ -8,12 +8,16 @@ MOST_DIGITS = 30
 DIGITS = "0123456789"
 
 
+def is_number_text(most, text):
+    """Whether a text is that of a number of so many digits at most, none of them needless."""
+    if not 1 <= len(text) <= most or not all([sign in DIGITS for sign in text]):
+        return False
+    return text[0] != "0" or text == "0"
+
+
 def is_integer_text(text):
     """Whether a text is that of an integer, nothing in it needless."""
-    digits = text.removeprefix("-")
-    if not 1 <= len(digits) <= MOST_DIGITS or not all([sign in DIGITS for sign in digits]):
-        return False
-    return digits[0] != "0" or text == "0"
+    return text != "-0" and is_number_text(MOST_DIGITS, text.removeprefix("-"))
 
 
 def read_row(text):
@@ -104,15 +108,19 @@ class Reader:
         return row is not None
 
 
-def read_program(text):
-    """The program that a text tells."""
+def read_with(reader, text):
+    """The rows that a reader of no lines yet reads from a text."""
     if not isinstance(text, str):
         raise BadText(0)
     *lines, rest = text.split("\n")
-    reader = Reader()
     for number, line in enumerate(lines, start=1):
         if not reader.take(line):
             raise BadText(number)
     if rest != "" or not reader.over():
         raise BadText(len(lines) + 1)
-    return Program(reader.rows())
+    return reader.rows()
+
+
+def read_program(text):
+    """The program that a text tells."""
+    return Program(read_with(Reader(), text))

@@ -31,11 +31,15 @@ class Session:
 
     def do(self, row):
         """Does a row that has no blocks."""
-        if not is_row(1, row) or blocks_of(row):
-            raise BadRow()
-        if row[0] == "note" and row[2] not in self._notes.functions:
+        if not is_row(1, row) or blocks_of(row) or not self.can_do(row):
             raise BadRow()
         self._go(row)
+
+    def can_do(self, row):
+        """Whether a row without blocks, or a ("drop", x), can be done here; what functions raise is not told."""
+        if row[0] == "drop":
+            return row[1] in self.names()
+        return row[0] != "note" or row[2] in self._notes.functions
 
     def held(self, name):
         """What a name holds: ("worth", w) or ("note", number)."""
@@ -65,7 +69,7 @@ class Session:
 
     def drop(self, name):
         """Lets a name hold 0 again, as if it had never been written."""
-        if name not in self.names():
+        if not self.can_do(("drop", name)):
             raise Unknown(name)
         self._go(("drop", name))
 

@@ -27,6 +27,8 @@ def block_lines(block):
             found.extend(["either", *blocks[0], "or", *blocks[1]])
         elif row[0] == "again":
             found.extend(["again", *blocks[0]])
+        elif row[0] == "call":
+            found.append(f"call {row[1]}")
         else:
             found.append(row_text(row))
     return found

@@ -26,7 +26,8 @@ def plain_row(text):
 
 
 class PlainReader:
-    def __init__(self, text):
+    def __init__(self, text, row=plain_row):
+        self.row = row
         self.lines = text.split("\n")
         self.rest = self.lines.pop()
         self.at = 0
@@ -62,10 +63,10 @@ class PlainReader:
                 rows.append(("either", first, self.block(margin + 2)))
             elif word == "again":
                 rows.append(("again", self.block(margin + 2)))
-            elif plain_row(word) is None:
+            elif self.row(word) is None:
                 raise Wrong(self.at)
             else:
-                rows.append(plain_row(word))
+                rows.append(self.row(word))
         if self.at < len(self.lines) and self.blanks() % 2:
             raise Wrong(self.at + 1)
         return tuple(rows)
@@ -81,3 +82,42 @@ def plain_read(text):
     if reader.at < len(reader.lines) or reader.rest:
         return reader.at + 1 if reader.at < len(reader.lines) else len(reader.lines) + 1
     return block
+
+
+def plain_call_row(text):
+    """The row of a text in a book."""
+    found = re.fullmatch("call (0|[1-9][0-9]{0,8})", text)
+    return ("call", int(found[1])) if found else plain_row(text)
+
+
+def plain_read_blocks(text):
+    """The tuple of blocks that a text tells, or the number of the first wrong line."""
+    reader = PlainReader(text, plain_call_row)
+    blocks = []
+    try:
+        while reader.at < len(reader.lines):
+            if reader.take_word(0) != "block":
+                raise Wrong(reader.at)
+            blocks.append(reader.block(2))
+    except Wrong as wrong:
+        return wrong.line
+    return len(reader.lines) + 1 if reader.rest else tuple(blocks)
+
+
+def plain_journal_rows(functions, text):
+    """The list of the rows that a journal's whole lines tell, and how many signs they take; drops are rows, too."""
+    rows, many, written = [], 0, set()
+    for line in re.findall("[^\n]*\n", text):
+        found = re.fullmatch("(.*) #([0-9]+)\n", line)
+        if not found or found[2] != str(sum(ord(sign) * (at + 1) for at, sign in enumerate(found[1])) % 9973):
+            break
+        drop = re.fullmatch(f"drop ({NAME})", found[1])
+        row = ("drop", drop[1]) if drop else plain_row(found[1])
+        if row is None or (row[0] == "note" and row[2] not in functions) or (drop and row[1] not in written):
+            break
+        if row[0] in ("note", "copy", "give"):
+            written.add(row[1])
+        written -= {row[1]} if drop else set()
+        rows.append(row)
+        many += len(line)
+    return rows, many

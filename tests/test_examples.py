@@ -2,6 +2,8 @@
 
 import unittest
 
+from putoffpiles.bookruns import book_told
+from putoffpiles.books import Book
 from putoffpiles.holders import holders
 from putoffpiles.marks import bounds, is_quiet, surely, vain_way
 from putoffpiles.piles import fullest, greatest, ring, round_way, shapes
@@ -12,6 +14,8 @@ from putoffpiles.texts import program_text
 
 total = Program((("give", "t", 0), ("again", (("note", "t", "add", ("t",)),)), ("print", "t")))
 last = Program((("give", "a", 1), ("again", (("note", "c", "f", ("a",)),)), ("print", "c")))
+back = Book(((("give", "t", 0), ("call", 1), ("print", "t")),
+             (("either", (("call", 1), ("note", "t", "add", ("t",))), ()),)))
 
 
 class Examples(unittest.TestCase):
@@ -61,6 +65,15 @@ class Examples(unittest.TestCase):
         s.do(("note", "b", "add", ("a", "a")))
         self.assertEqual(s.waiting(), (0,))
         self.assertEqual(s.journal(), "a = 2 #722\nb = add(a, a) #5940\n")
+
+    def test_e09(self):
+        self.assertEqual(back.blocks[1][0][0], "either")
+
+    def test_e10(self):
+        run = book_told(back, (0, 0, 0, 0, 1, 0), {"add": lambda row: row[0] + 1})
+        self.assertEqual(run.pile(), ((0, 2),))
+        self.assertEqual(run.rows(), ((0, 0), (0, 1), (1, 0), (1, 1), (1, 0), (1, 2)))
+        self.assertEqual(run.waiting(), (0,))
 
 
 if __name__ == "__main__":

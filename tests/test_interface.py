@@ -16,12 +16,18 @@ FUNCTIONS = {
               "marked": ["program", "places"], "is_quiet": ["program"]},
     "texts": {"row_text": ["row"], "program_text": ["program"]},
     "reading": {"read_program": ["text"]},
+    "journals": {"recovered": ["functions", "text"]},
+    "books": {"book_names": ["book"], "book_row": ["book", "n", "place"], "as_book": ["program"], "put_in": ["book"]},
+    "bookruns": {"book_told": ["book", "steps", "functions"], "book_shape": ["run"]},
+    "booktexts": {"book_text": ["book"], "read_book": ["text"]},
 }
 CLASSES = {
     "programs": {"Program": ["block"]},
     "runs": {"Run": ["program", "functions"]},
     "machine": {"Machine": ["program", "functions", "size"]},
     "sessions": {"Session": ["functions"]},
+    "books": {"Book": ["blocks"]},
+    "bookruns": {"BookRun": ["book", "functions"]},
 }
 METHODS = {
     ("programs", "Program"): {"__eq__": ["other"]},
@@ -32,6 +38,9 @@ METHODS = {
     ("sessions", "Session"): {"do": ["row"], "held": ["name"], "note": ["number"], "waiting": [], "worked": [],
                               "said": [], "names": [], "drop": ["name"], "undo": [], "redo": [], "copy": [],
                               "journal": []},
+    ("books", "Book"): {"__eq__": ["other"]},
+    ("bookruns", "BookRun"): {"step": ["which"], "pile": [], "rows": [], "steps": [], "held": ["name"], "note": ["number"],
+                              "waiting": [], "worked": [], "said": [], "back": [], "copy": []},
 }
 
 
