@@ -130,6 +130,14 @@ def opened_by(book, place):
     return row[1] if row[0] == "call" and book.blocks[row[1]] else None
 
 
+def calls_of(book):
+    """The list of the places of all calls."""
+    found = []
+    for n, body in enumerate(book._bodies):
+        found.extend([(n, place) for place in range(end_of(body)) if row_at(body, place)[0] == "call"])
+    return found
+
+
 def as_book(program):
     """The book of a program's block alone."""
     book = Book(((),))

@@ -32,10 +32,7 @@ class Holding:
         """Does a row, or the ("drop", x) of a session; a row that only leads elsewhere changes nothing."""
         word = row[0]
         if word in ASKING:
-            # All functions are called ahead of the first change, so that one that raises has changed nothing.
-            fresh = self._worked_out(row[1])
-            self.worths.update(fresh)
-            self.order.extend(self._numbers(fresh))
+            self._work_out(self.held(row[1]))
         if word == "print":
             self.printed.append(self.held(row[1])[1])
         elif word == "note":
@@ -91,11 +88,19 @@ class Holding:
             return fresh[what]
         return self._now(thing)[1]
 
-    def _worked_out(self, name):
-        """The worths of all notes that asking a name works out, in the order in which it does; none is kept."""
+    def _work_out(self, thing):
+        """Works out a thing and all that is noted beneath, and tells how many notes that were."""
+        # All functions are called ahead of the first change, so that one that raises has changed nothing.
+        fresh = self._worked_out(thing)
+        self.worths.update(fresh)
+        self.order.extend(self._numbers(fresh))
+        return len(fresh)
+
+    def _worked_out(self, thing):
+        """The worths of all notes that working out a thing works out, in the order in which it does; none is kept."""
         fresh = {}
         # A stack of the notes whose parts are under way, not calls within calls: chains have any length.
-        ahead = self._open([self.held(name)], fresh)
+        ahead = self._open([thing], fresh)
         while ahead:
             op, parts = self.made[ahead[-1]]
             beneath = self._open(parts, fresh)
@@ -149,6 +154,10 @@ class Notes(Holding):
         del self.made[made:]
         del self.order[worked:]
         del self.printed[said:]
+
+    def work_ahead(self, number):
+        """Works out a note that waits, though no row asks it, and tells how many notes that were with those beneath."""
+        return self._work_out(("note", number))
 
     def written(self):
         """The lot of the names that were written and not dropped since."""

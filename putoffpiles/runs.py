@@ -80,9 +80,19 @@ def told(program, way, functions):
     if not is_way(program, way) or way[0] != 0:
         raise NoWay()
     run = Run(program, functions)
-    for place, after in zip(way, way[1:]):
-        run.step(nexts(program, place).index(after))
+    for place in way[1:]:
+        go_to(run, place)
     return run
+
+
+def go_to(run, place):
+    """Does the row at which a run stands, and goes to a place next to it."""
+    run.step(nexts(run._program, run.place()).index(place))
+
+
+def work_ahead(run, number):
+    """Works out a note of a run that waits, though no row asks it, and tells how many notes that were."""
+    return run._notes.work_ahead(number)
 
 
 def shape(run):

@@ -2,10 +2,13 @@
 
 import unittest
 
+from putoffpiles.ahead import worked_ahead
+from putoffpiles.bookrings import is_book_ring
 from putoffpiles.bookruns import book_told
 from putoffpiles.books import Book
 from putoffpiles.holders import holders
 from putoffpiles.marks import bounds, is_quiet, surely, vain_way
+from putoffpiles.passages import is_back, is_there
 from putoffpiles.piles import fullest, greatest, ring, round_way, shapes
 from putoffpiles.programs import Program, names, nexts
 from putoffpiles.runs import shape, told
@@ -67,13 +70,19 @@ class Examples(unittest.TestCase):
         self.assertEqual(s.journal(), "a = 2 #722\nb = add(a, a) #5940\n")
 
     def test_e09(self):
-        self.assertEqual(back.blocks[1][0][0], "either")
+        self.assertIs(is_back(back, 1, ((1, 2),)), True)
+        self.assertIs(is_book_ring(back, ("back", (1, -1), ((1, 2),), 0, ("t",))), True)
+        self.assertIs(is_there(back, (1, -1), ((1, 0), (1, 1))), True)
 
     def test_e10(self):
         run = book_told(back, (0, 0, 0, 0, 1, 0), {"add": lambda row: row[0] + 1})
         self.assertEqual(run.pile(), ((0, 2),))
         self.assertEqual(run.rows(), ((0, 0), (0, 1), (1, 0), (1, 1), (1, 0), (1, 2)))
         self.assertEqual(run.waiting(), (0,))
+
+    def test_e11(self):
+        self.assertEqual(worked_ahead(
+            total, (0, 1, 2, 1, 2, 1, 3, 4), {"add": lambda row: row[0] + 1}, lambda row: row[0]), ((2,), 1, 2))
 
 
 if __name__ == "__main__":

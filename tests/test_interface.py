@@ -20,6 +20,11 @@ FUNCTIONS = {
     "books": {"book_names": ["book"], "book_row": ["book", "n", "place"], "as_book": ["program"], "put_in": ["book"]},
     "bookruns": {"book_told": ["book", "steps", "functions"], "book_shape": ["run"]},
     "booktexts": {"book_text": ["book"], "read_book": ["text"]},
+    "passages": {"is_there": ["book", "head", "thing"], "is_back": ["book", "n", "thing"],
+                 "row_holders": ["book", "rows", "lot"]},
+    "bookrings": {"book_ring": ["book"], "is_book_ring": ["book", "thing"], "ring_steps": ["book", "ring", "times"]},
+    "bookshapes": {"book_greatest": ["book"], "book_shapes": ["book"]},
+    "ahead": {"worked_ahead": ["program", "way", "functions", "worker"]},
 }
 CLASSES = {
     "programs": {"Program": ["block"]},

@@ -23,7 +23,7 @@ BARRED_WORDS = set(
 BARRED_ATTRIBUTES = set(
     "items keys values pop update append clear extend insert remove reverse setdefault sort args encode decode hex"
     " fromhex format format_map mro".split())
-LIBRARY = {"itertools": {"combinations"}}
+LIBRARY = {"itertools": {"combinations"}, "heapq": {"heappush", "heappop"}}
 BARRED_NODES = (ast.AsyncFunctionDef, ast.AsyncFor, ast.AsyncWith, ast.Await, ast.Div)
 SETS = (ast.Set, ast.SetComp)
 
