@@ -1,7 +1,8 @@
 """Walks: how a ring of a book is found, in a graph of what names hold some note at which place.
 
 A spot is the pair (place, lot): a note that is held by just the names of the lot, not empty, where one stands there.
-A twin is the triple (place, lot, other) for an elder note and a younger one, other being None if that is not made yet.
+A twin is the triple (place, lot, other) for an elder note and a younger one that are held so, other being None where
+the younger one is not made yet, or is of no account any more.
 """
 
 from itertools import combinations
@@ -16,28 +17,42 @@ THERE = "there"
 BACK = "back"
 
 
+def lots_behind(row, lot):
+    """The list of the lot behind a row, empty if the note is worked out or gone."""
+    after = lot_behind(row, lot)
+    return [after] if after else []
+
+
 def pairs_behind(row, pair):
-    """The list of the pairs (lot, other) behind a row: none if one of the notes is worked out or gone.
+    """The list of the pairs (lot, other) behind a row, empty if one of the notes is worked out or gone.
 
     Where the younger note is not made yet, a note row may make it, or one that is of no account.
     """
-    lot = lot_behind(row, pair[0])
-    if not lot:
-        return []
-    if pair[1] is None:
-        return [(lot, None), (lot, (row[1],))] if row[0] == "note" else [(lot, None)]
-    other = lot_behind(row, pair[1])
-    return [(lot, other)] if other else []
+    found = []
+    for lot in lots_behind(row, pair[0]):
+        if pair[1] is not None:
+            found.extend([(lot, other) for other in lots_behind(row, pair[1])])
+        elif row[0] == "note":
+            found.extend([(lot, None), (lot, (row[1],))])
+        else:
+            found.append((lot, None))
+    return found
 
 
 class Watch:
-    """What rows make of pairs of lots, kept for the next time."""
+    """What rows make of pairs of lots, kept for the next time, and how blocks are gone through with a lot or a pair."""
 
     def __init__(self, book):
         self.book = book
         self.kept = {}
+        self.single = Crossings(book, self.lots)
+        self.paired = Crossings(book, self.pairs)
 
-    def behind(self, place, pair):
+    def lots(self, place, lot):
+        """The list of the lots behind the row at a place."""
+        return lots_behind(row_of(self.book, place), lot)
+
+    def pairs(self, place, pair):
         """The list of the pairs behind the row at a place."""
         key = (place, pair)
         if key not in self.kept:
@@ -53,11 +68,10 @@ class WalkSearch:
     block, behind any call of it.
     """
 
-    def __init__(self, book, kind, watch, crossings):
+    def __init__(self, book, kind, watch):
         self.book = book
         self.kind = kind
         self.watch = watch
-        self.crossings = crossings
         self.calls = {n: [] for n in range(len(book.blocks))}
         for call in calls_of(book):
             self.calls[row_of(book, call)[1]].append(call)
@@ -65,17 +79,15 @@ class WalkSearch:
 
     def found(self):
         """A ring, or None."""
-        begins = self._begins()
-        path = least_path(list(begins), self._twins_within, lambda twin: twin[1] == twin[2])
-        if path is None:
-            return None
-        spot = begins[path[0]]
-        rest = least_path(
-            [(path[-1][0], path[-1][1], None)],
-            self._elder_within,
-            lambda twin: (twin[0], twin[1]) == spot)
-        first = [(spot[0], spot[1], None)] + path
-        return self._ring_of(list(zip(first, first[1:])) + list(zip(rest, rest[1:])))
+        came = {}
+        for first in self._makers():
+            for twin in self._made_behind(first):
+                if twin not in came:
+                    came[twin] = first
+                    last = self._first_alike(twin, came)
+                    if last is not None:
+                        return self._ring_of(self._walk_to(last, came))
+        return None
 
     def _spot_leads(self):
         """For each spot, of any lot, the list of the spots next to it."""
@@ -85,32 +97,79 @@ class WalkSearch:
         for n in range(len(self.book.blocks)):
             for place in range(block_end(self.book, n) + 1):
                 for lot in lots:
-                    behind = self._twins_behind(((n, place), lot, None))
-                    leads[((n, place), lot)] = [(to, after) for to, after, other in behind if other is None]
+                    behind = self._behind(((n, place), lot, None))
+                    leads[((n, place), lot)] = [(twin[0], twin[1]) for twin in behind]
         return leads
 
-    def _begins(self):
-        """The twins with which a walk may begin, each with the spot ahead of it, where the younger note is not made."""
-        found = {}
+    def _makers(self):
+        """The list of the twins without a younger note at rows that may make one, calls behind all others."""
+        notes = []
+        # What calls make takes more to find out, and is mostly not needed.
+        calls = []
         for place, lot in self.knots:
-            for twin in self._twins_within((place, lot, None)):
-                if twin[2] is not None:
-                    found[twin] = (place, lot)
-        return found
+            if place[1] < block_end(self.book, place[0]):
+                if row_of(self.book, place)[0] == "note":
+                    notes.append((place, lot, None))
+                elif opened_by(self.book, place) is not None:
+                    calls.append((place, lot, None))
+        return notes + calls
 
-    def _twins_behind(self, twin):
-        """The list of the twins next to a twin."""
+    def _made_behind(self, first):
+        """The list of the twins behind a row that makes the younger note, if the elder one can come back."""
+        place, lot, _ = first
+        inner = opened_by(self.book, place)
+        if not self._within(first):
+            return []
+        if inner is None:
+            pairs = self.watch.pairs(place, (lot, None))
+        else:
+            pairs = self.watch.paired.states_behind(inner, (lot, None))
+        return self._kept(first, self._moved(place, [pair for pair in pairs if pair[1] is not None]))
+
+    def _first_alike(self, begin, came):
+        """The first twin, from one on, of which both notes are held by the same names, or None.
+
+        Came tells for each twin that was met the one ahead of it; from those met earlier there is none.
+        """
+        ahead = [begin]
+        at = 0
+        while at < len(ahead):
+            twin = ahead[at]
+            if twin[1] == twin[2]:
+                return twin
+            for after in self._within(twin):
+                if after not in came:
+                    came[after] = twin
+                    ahead.append(after)
+            at += 1
+        return None
+
+    def _walk_to(self, last, came):
+        """The list of the pairs of a twin and the one next to it, on the walk by way of a twin that was met."""
+        path = [last]
+        while path[-1][2] is not None:
+            path.append(came[path[-1]])
+        path = path[::-1]
+        rest = least_path([(last[0], last[1], None)], self._within, lambda twin: twin == path[0])
+        return list(zip(path, path[1:])) + list(zip(rest, rest[1:]))
+
+    def _behind(self, twin):
+        """The list of the twins next to a twin, the younger note not being made on the way."""
         place, lot, other = twin
         if self._is_at_end(twin):
             calls = self.calls[place[0]] if self.kind == BACK else []
             return [((call[0], nexts_of(self.book, call)[0]), lot, other) for call in calls]
         inner = opened_by(self.book, place)
+        if other is None:
+            lots = self.watch.lots(place, lot) if inner is None else self.watch.single.states_behind(inner, lot)
+            return self._moved(place, [(after, None) for after in lots]) + self._opened(twin)
         if inner is None:
-            pairs = self.watch.behind(place, (lot, other))
-        else:
-            pairs = self.crossings.states_behind(inner, (lot, other))
-        found = [((place[0], to), pair[0], pair[1]) for pair in pairs for to in nexts_of(self.book, place)]
-        return found + self._opened(twin)
+            return self._moved(place, self.watch.pairs(place, (lot, other)))
+        return self._moved(place, self.watch.paired.states_behind(inner, (lot, other))) + self._opened(twin)
+
+    def _moved(self, place, pairs):
+        """The list of the twins of these pairs at the places next to one in its block."""
+        return [((place[0], to), pair[0], pair[1]) for pair in pairs for to in nexts_of(self.book, place)]
 
     def _is_at_end(self, twin):
         """Whether a twin is at the end of a block."""
@@ -123,14 +182,14 @@ class WalkSearch:
         inner = opened_by(self.book, twin[0])
         return [] if inner is None else [((inner, 0), twin[1], twin[2])]
 
-    def _twins_within(self, twin):
+    def _within(self, twin):
         """The twins next to a twin from which the elder note can come back to where it was."""
-        knot = self.knots[(twin[0], twin[1])]
-        return [after for after in self._twins_behind(twin) if self.knots[(after[0], after[1])] == knot]
+        return self._kept(twin, self._behind(twin))
 
-    def _elder_within(self, twin):
-        """Those of them without a younger note."""
-        return [after for after in self._twins_within(twin) if after[2] is None]
+    def _kept(self, twin, behind):
+        """Those of the twins behind one from which the elder note can come back to where it was."""
+        knot = self.knots[(twin[0], twin[1])]
+        return [after for after in behind if self.knots[(after[0], after[1])] == knot]
 
     def _rows_between(self, twin, after):
         """For each row from a twin to a next one its place, and whether the younger note is not made yet."""
@@ -138,14 +197,18 @@ class WalkSearch:
         if self._is_at_end(twin):
             return []
         found = [(place, other is None)]
-        if opened_by(self.book, place) is None or after in self._opened(twin):
-            return found
         inner = opened_by(self.book, place)
-        steps = self.crossings.path(inner, (lot, other), (block_end(self.book, inner), (after[1], after[2])))
+        if inner is None or after in self._opened(twin):
+            return found
+        end = block_end(self.book, inner)
+        if after[2] is None:
+            steps = self.watch.single.path(inner, lot, (end, after[1]))
+            return found + [(at, True) for at, lot, which in steps]
+        steps = self.watch.paired.path(inner, (lot, other), (end, (after[1], after[2])))
         return found + [(at, pair[1] is None) for at, pair, which in steps]
 
     def _ring_of(self, walk):
-        """The ring of a walk, the list of its pairs of a twin and of the one next to it."""
+        """The ring of a walk."""
         edges = [self._rows_between(twin, after) for twin, after in walk]
         head, turn = self._head_on(walk)
         ahead = [row[0] for edge in edges[:turn] for row in edge]
@@ -174,6 +237,5 @@ class WalkSearch:
 def found_ring(book):
     """A ring of a book, or None."""
     watch = Watch(book)
-    crossings = Crossings(book, watch.behind)
-    ring = WalkSearch(book, THERE, watch, crossings).found()
-    return WalkSearch(book, BACK, watch, crossings).found() if ring is None else ring
+    ring = WalkSearch(book, THERE, watch).found()
+    return WalkSearch(book, BACK, watch).found() if ring is None else ring

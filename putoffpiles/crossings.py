@@ -68,10 +68,11 @@ class Crossings:
             self._put(0, beginning, (0, beginning[1]), None)
 
     def _put(self, steps, beginning, point, before):
-        """Puts a point, so many steps behind its beginning, among what is to be done."""
-        # The count keeps apart what has as many steps, so that nothing else is compared.
-        self.many += 1
-        heappush(self.queue, (steps, self.many, beginning, point, before))
+        """Puts a point, so many steps behind its beginning, among what is to be done, if it was not met yet."""
+        if point not in self.came[beginning]:
+            # The count keeps apart what has as many steps, so that nothing else is compared.
+            self.many += 1
+            heappush(self.queue, (steps, self.many, beginning, point, before))
 
     def _go_on(self, steps, beginning, point):
         """Does the row at a point."""
