@@ -203,7 +203,7 @@ class WalkSearch:
         end = block_end(self.book, inner)
         if after[2] is None:
             steps = self.watch.single.path(inner, lot, (end, after[1]))
-            return found + [(at, True) for at, lot, which in steps]
+            return found + [(at, True) for at, state, which in steps]
         steps = self.watch.paired.path(inner, (lot, other), (end, (after[1], after[2])))
         return found + [(at, pair[1] is None) for at, pair, which in steps]
 

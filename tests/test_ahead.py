@@ -6,6 +6,8 @@ import unittest
 from odd import anything
 from reference import ReferenceRun, loopy_blocks, some_blocks, stands_of
 from reference_piles import TERMS, plain_names
+from rows import note
+from strangers import Broken
 from putoffpiles.ahead import worked_ahead
 from putoffpiles.books import Book, put_in
 from putoffpiles.errors import BadWorker, NoFunctions, NoNote, NoWay, PileError
@@ -16,14 +18,6 @@ from putoffpiles.runs import told
 TOTAL = Program((("give", "t", 0), ("again", (("note", "t", "add", ("t",)),)), ("print", "t")))
 WAY = (0, 1, 2, 1, 2, 1, 3, 4)
 PLUS = {"add": lambda row: row[0] + 1}
-
-
-class Broken(Exception):
-    """What strangers raise."""
-
-
-def note(name, *ys):
-    return ("note", name, "f", ys)
 
 
 def straight(*rows):

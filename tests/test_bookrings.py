@@ -9,30 +9,13 @@ from reference_books import plain_book_names, rows_in, some_books
 from reference_passages import heads_of
 from reference_piles import TERMS
 from reference_shapes import plain_book_shapes, plainly_book_ring
+from rows import ASK, call, either, again, note
 from putoffpiles.books import Book, as_book, book_names, put_in
 from putoffpiles.bookrings import book_ring, is_book_ring, ring_steps
 from putoffpiles.bookruns import BookRun, book_told
 from putoffpiles.errors import NoNumber, NoRing, TooMany
 from putoffpiles.piles import ring
 from putoffpiles.programs import Program
-
-ASK = ("ask", "x")
-
-
-def call(n):
-    return ("call", n)
-
-
-def either(first, second=()):
-    return ("either", first, second)
-
-
-def again(*rows):
-    return ("again", rows)
-
-
-def note(name, *ys):
-    return ("note", name, "f", ys)
 
 
 BACK = Book(((("give", "t", 0), call(1), ("print", "t")), (either((call(1), note("t", "t"))),)))

@@ -7,25 +7,13 @@ from odd import anything
 from reference import ReferenceRun, reference_nexts
 from reference_books import PlainBookRun, plain_book_names, plain_put_in, rows_in, some_books
 from reference_piles import TERMS
+from rows import ASK, call, either, note
+from strangers import Broken, Calls
 from putoffpiles.books import Book, as_book, put_in
 from putoffpiles.bookruns import BookRun, book_shape, book_told
 from putoffpiles.errors import BadStep, IsOver, NoFunctions, NoName, NoNote, NoSteps, NothingDone
 from putoffpiles.programs import Program, names, nexts, row_at
 from putoffpiles.runs import Run, shape
-
-ASK = ("ask", "x")
-
-
-def call(n):
-    return ("call", n)
-
-
-def either(first, second=()):
-    return ("either", first, second)
-
-
-def note(name, *ys):
-    return ("note", name, "f", ys)
 
 
 def run_of(*blocks, functions=TERMS):
@@ -36,27 +24,6 @@ def stepped(run, *whiches):
     for which in whiches:
         run.step(which)
     return run
-
-
-class Broken(Exception):
-    """What a stranger's function raises."""
-
-
-class Calls:
-    """Functions that write down how they are called, and raise when they are told to."""
-
-    def __init__(self, *ops):
-        self.log = []
-        self.error = None
-        self.functions = {op: self.function(op) for op in ops}
-
-    def function(self, op):
-        def work(row):
-            self.log.append((op, row))
-            if self.error is not None:
-                raise self.error
-            return f"{op}{len(self.log)}"
-        return work
 
 
 def seen(run, many=12):
@@ -365,11 +332,15 @@ class Deep(unittest.TestCase):
             run.back()
         self.assertEqual(seen(run), seen(twin))
         self.assertEqual(book_told(Book(self.DOWN), steps, plus).said(), (2 * deep,))
-        for which in (0, 0) + (0, 0, 0) * 700 + (1,) + (0,) * 200:
+        for which in (0, 0) + (0, 0, 0) * 1200 + (1,) + (0,) * 300:
             plain.step(which)
         other = book_told(Book(self.DOWN), tuple(plain.whiches), plus)
-        self.assertEqual((other.pile(), other.rows()), (plain.pile(), tuple(plain.done)))
-        self.assertEqual(book_shape(other), plain.shape())
+        for _ in range(2):
+            self.assertEqual((other.pile(), other.rows()), (plain.pile(), tuple(plain.done)))
+            self.assertEqual((book_shape(other), other.waiting()), (plain.shape(), plain.account.waiting()))
+            for _ in range(400):
+                other.back()
+                plain.back()
 
     def test_calls_that_end_all_at_once(self):
         deep = 5000

@@ -8,6 +8,7 @@ from reference import loopy_blocks, reference_nexts, some_blocks
 from reference_books import (
     is_knotted, plain_bad_part, plain_book_names, plain_put_in, rows_in, some_books)
 from reference_piles import TERMS
+from rows import ASK, call, either, note
 from putoffpiles.books import Book, as_book, book_names, book_row, put_in
 from putoffpiles.bookruns import BookRun
 from putoffpiles.booktexts import book_text
@@ -18,20 +19,7 @@ from putoffpiles.programs import Program, is_way, names, nexts, row_at
 from putoffpiles.runs import told
 from putoffpiles.texts import program_text
 
-ASK = ("ask", "x")
 ROWS_12 = (ASK,) * 12
-
-
-def call(n):
-    return ("call", n)
-
-
-def either(first, second=()):
-    return ("either", first, second)
-
-
-def note(name, *ys):
-    return ("note", name, "f", ys)
 
 
 class BookCase(unittest.TestCase):
@@ -171,6 +159,8 @@ class EndlessAndApart(BookCase):
         self.assert_bad(((call(2),), (call(2), either((call(1),))), ()), ("apart", 1))
         self.assert_bad(((call(1),), (), (call(3),), ()), ("apart", 2))
         self.assert_bad(((either((call(0),)),), (call(0),)), ("apart", 1))
+        self.assert_bad(((), (either((call(1),)),)), ("apart", 1))
+        self.assert_bad(((), (either((call(2),)),), (either((call(1),)),)), ("apart", 1))
         self.assert_good(((call(2),), (), (either((), (("again", (call(1),)),)),)))
 
     def test_both(self):

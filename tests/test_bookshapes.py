@@ -7,6 +7,7 @@ from reference import loopy_blocks
 from reference_books import is_knotted, plain_book_names, rows_in, some_books
 from reference_piles import plain_names
 from reference_shapes import plain_book_shapes
+from rows import ASK, call, either, again, note
 from putoffpiles.books import Book, as_book, put_in
 from putoffpiles.bookrings import book_ring
 from putoffpiles.bookruns import BookRun, book_shape
@@ -15,25 +16,8 @@ from putoffpiles.errors import Endless, TooMany
 from putoffpiles.piles import greatest, ring, shapes
 from putoffpiles.programs import Program
 
-ASK = ("ask", "x")
 NOTHING = {op: lambda row: 0 for op in ("f", "g", "h", "add")}
 GROWN = ("note", "x", "f", ("x",))
-
-
-def call(n):
-    return ("call", n)
-
-
-def either(first, second=()):
-    return ("either", first, second)
-
-
-def again(*rows):
-    return ("again", rows)
-
-
-def note(name, *ys):
-    return ("note", name, "f", ys)
 
 
 def straight(*rows):

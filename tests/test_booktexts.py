@@ -6,6 +6,7 @@ import unittest
 from odd import anything, odd_strings
 from reference_books import plain_bad_part, some_books
 from reference_texts import plain_read_blocks
+from rows import ASK, call, either
 from putoffpiles.books import Book, as_book, put_in
 from putoffpiles.booktexts import book_text, read_book
 from putoffpiles.errors import BadBook, BadText, NoRow
@@ -13,16 +14,6 @@ from putoffpiles.marks import marked
 from putoffpiles.programs import Program
 from putoffpiles.reading import read_program
 from putoffpiles.texts import program_text, row_text
-
-ASK = ("ask", "x")
-
-
-def call(n):
-    return ("call", n)
-
-
-def either(first, second=()):
-    return ("either", first, second)
 
 
 class TextCase(unittest.TestCase):

@@ -7,17 +7,11 @@ from odd import anything
 from reference_piles import TERMS
 from reference_sessions import Account
 from reference_texts import plain_journal_rows
+from rows import note
+from strangers import Broken
 from putoffpiles.errors import BadRow, NoFunctions, NoNote, NoText, NothingDone, Unknown
 from putoffpiles.journals import recovered
 from putoffpiles.sessions import Session
-
-
-class Broken(Exception):
-    """What a stranger's function raises."""
-
-
-def note(name, *ys):
-    return ("note", name, "f", ys)
 
 
 def act(session, row):

@@ -7,6 +7,7 @@ from odd import anything
 from reference_books import plain_book_names, rows_in, some_books
 from reference_passages import Watched, heads_of, plain_back, plain_there
 from reference_piles import plain_lot
+from rows import ASK, call, either, again, note
 from putoffpiles.books import Book, as_book
 from putoffpiles.bookruns import BookRun, book_told
 from putoffpiles.errors import NoHead, NoLot, NoRows
@@ -14,24 +15,6 @@ from putoffpiles.holders import holders
 from putoffpiles.passages import is_back, is_there, row_holders
 from putoffpiles.programs import Program, is_way
 from putoffpiles.tracks import back_track, there_track
-
-ASK = ("ask", "x")
-
-
-def call(n):
-    return ("call", n)
-
-
-def either(first, second=()):
-    return ("either", first, second)
-
-
-def again(*rows):
-    return ("again", rows)
-
-
-def note(name, *ys):
-    return ("note", name, "f", ys)
 
 
 # A block that calls itself ahead of a note or not, from the examples.

@@ -8,6 +8,7 @@ from odd import anything
 from reference import loopy_blocks, some_blocks
 from reference_piles import TERMS
 from reference_sessions import Account
+from strangers import Broken, Calls
 from putoffpiles.errors import BadRow, NoFunctions, NoName, NoNote, NothingDone, Unknown
 from putoffpiles.machine import Machine
 from putoffpiles.programs import Program, names, nexts, row_at
@@ -15,27 +16,6 @@ from putoffpiles.runs import Run
 from putoffpiles.sessions import Session
 
 PLAIN = ("note", "copy", "give", "ask", "print")
-
-
-class Broken(Exception):
-    """What a stranger's function raises."""
-
-
-class Calls:
-    """Functions that write down how they are called, tell how often they were, and raise when they are told to."""
-
-    def __init__(self, *ops):
-        self.log = []
-        self.error = None
-        self.functions = {op: self.function(op) for op in ops}
-
-    def function(self, op):
-        def work(row):
-            self.log.append((op, row))
-            if self.error is not None:
-                raise self.error
-            return f"{op}{len(self.log)}"
-        return work
 
 
 def note(name, *ys):
