@@ -214,7 +214,7 @@ class WalkSearch:
         ahead = [row[0] for edge in edges[:turn] for row in edge]
         rest = [row[0] for edge in edges[turn:] for row in edge]
         made = len([row for row in edges[0] if row[1]]) - 1
-        k = made - len(ahead) if made >= len(ahead) else made + len(rest)
+        k = made + len(rest) if ahead else made
         rows = tuple(rest + ahead)
         lot = walk[turn][0][1]
         if row_holders(self.book, rows[k + 1 :], (row_of(self.book, rows[k])[1],)) != lot:

@@ -68,6 +68,7 @@ class Shapes(unittest.TestCase):
 
     def test_main_that_calls_itself_and_agains_whose_blocks_call(self):
         for blocks in (((again(call(0), note("x")), ASK),), ((again(either((call(0), call(0), note("x")))),),),
+                       ((either((note("x"), call(0), note("y"))),),),
                        ((again(call(1), again(call(1))), ASK), (either((call(0),), (note("x"),)), ("copy", "y", "x"), note("x")))):
             self.assertIsNone(book_ring(Book(blocks)))
             self.assertEqual(book_shapes(Book(blocks)), sorted(plain_book_shapes(blocks, 200)))
